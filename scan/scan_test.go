@@ -8,23 +8,9 @@ import (
 	"testing"
 
 	"dovetail/api"
+	"dovetail/checks"
 	"dovetail/scan"
 )
-
-// texts is all texts over an alphabet, up to a length.
-func texts(alphabet string, most int) []string {
-	all, last := []string{""}, []string{""}
-	for range most {
-		var longer []string
-		for _, s := range last {
-			for i := range len(alphabet) {
-				longer = append(longer, s+alphabet[i:i+1])
-			}
-		}
-		all, last = append(all, longer...), longer
-	}
-	return all
-}
 
 // members is each class written out, byte by byte.
 func members() map[int]string {
@@ -96,7 +82,7 @@ func TestRun(t *testing.T) {
 
 // P1.2, by its words: all of the class up to the end, and the end is not.
 func TestRunEverywhere(t *testing.T) {
-	for _, s := range texts("0a \n", 4) {
+	for _, s := range checks.Texts("0a \n", 4) {
 		for _, at := range places {
 			for class := -1; class <= api.NumCss; class++ {
 				want := at
@@ -223,7 +209,7 @@ func TestSplit(t *testing.T) {
 
 // P1.7, P1.8: a piece's text stands at its place.
 func TestPlaces(t *testing.T) {
-	for _, s := range texts("a,\n\r", 5) {
+	for _, s := range checks.Texts("a,\n\r", 5) {
 		for i, p := range scan.Lines(s) {
 			if !strings.HasPrefix(s[p.At:], p.Text) || p.Line != strings.Count(s[:p.At], "\n")+1 || p.Line != i+1 {
 				t.Errorf("Lines(%q)[%d] = %v", s, i, p)
@@ -298,7 +284,7 @@ func TestWord(t *testing.T) {
 
 // P1.11, of digits: Cmp and Next are those of numbers.
 func TestNumbers(t *testing.T) {
-	digits := texts("0189", 4)
+	digits := checks.Texts("0189", 4)
 	for _, a := range digits {
 		x, _ := strconv.Atoi("0" + a)
 		next := scan.Next(a)
@@ -320,7 +306,7 @@ func TestNumbers(t *testing.T) {
 
 // P1.11, of any texts: an order, 0 just where Trim is the same.
 func TestOrder(t *testing.T) {
-	all := texts("09a\xff", 3)
+	all := checks.Texts("09a\xff", 3)
 	for _, a := range all {
 		for _, b := range all {
 			ab := scan.Cmp(a, b)
@@ -338,7 +324,7 @@ func TestOrder(t *testing.T) {
 
 // P1.12
 func TestThereAndBack(t *testing.T) {
-	for _, s := range texts("a,\n\r", 6) {
+	for _, s := range checks.Texts("a,\n\r", 6) {
 		var joined []string
 		for _, p := range scan.Split(s, ',') {
 			joined = append(joined, p.Text)

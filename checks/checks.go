@@ -1,0 +1,67 @@
+// Package checks is what the tests of several layers share. No layer calls it.
+package checks
+
+import (
+	"cmp"
+	"strconv"
+)
+
+// Texts is all texts over an alphabet, up to a length.
+func Texts(alphabet string, most int) []string {
+	all, last := []string{""}, []string{""}
+	for range most {
+		var longer []string
+		for _, s := range last {
+			for i := range len(alphabet) {
+				longer = append(longer, s+alphabet[i:i+1])
+			}
+		}
+		all, last = append(all, longer...), longer
+	}
+	return all
+}
+
+// Rising tells the pairs of a list that compare does not put where they stand, the first one ahead of all.
+func Rising(l []string, compare func(a, b string) int) []string {
+	var wrong []string
+	for i, a := range l {
+		for j, b := range l {
+			if got, want := compare(a, b), cmp.Compare(i, j); got != want {
+				wrong = append(wrong, strconv.Quote(a)+" to "+strconv.Quote(b)+" is "+strconv.Itoa(got)+", not "+strconv.Itoa(want))
+			}
+		}
+	}
+	return wrong
+}
+
+// Order tells where compare is no order of a list: turned round it must be turned, go on from pair to pair, and what is alike must be alike with all.
+func Order(l []string, compare func(a, b string) int) []string {
+	answers := make([][]int, len(l))
+	for i, a := range l {
+		for _, b := range l {
+			answers[i] = append(answers[i], compare(a, b))
+		}
+	}
+	var wrong []string
+	for i, a := range l {
+		for j, b := range l {
+			if answers[i][j] != -answers[j][i] {
+				wrong = append(wrong, strconv.Quote(a)+" and "+strconv.Quote(b)+" turned round")
+			}
+			for k, c := range l {
+				if !goesOn(answers[i][j], answers[j][k], answers[i][k]) {
+					wrong = append(wrong, strconv.Quote(a)+", "+strconv.Quote(b)+", "+strconv.Quote(c))
+				}
+			}
+		}
+	}
+	return wrong
+}
+
+// goesOn tells whether a to c may be so, where a to b and b to c are.
+func goesOn(ab, bc, ac int) bool {
+	if ab == 0 && ac != bc {
+		return false
+	}
+	return ab > 0 || bc > 0 || ac <= 0
+}

@@ -1,0 +1,50 @@
+package checks_test
+
+import (
+	"slices"
+	"strings"
+	"testing"
+
+	"dovetail/checks"
+)
+
+func TestTexts(t *testing.T) {
+	if got := checks.Texts("ab", 2); !slices.Equal(got, []string{"", "a", "b", "aa", "ab", "ba", "bb"}) {
+		t.Errorf("Texts = %q", got)
+	}
+	if got := checks.Texts("", 3); !slices.Equal(got, []string{""}) {
+		t.Errorf("Texts = %q", got)
+	}
+}
+
+func TestRising(t *testing.T) {
+	if got := checks.Rising([]string{"a", "b", "c"}, strings.Compare); got != nil {
+		t.Errorf("Rising = %q", got)
+	}
+	if got := checks.Rising([]string{"b", "a"}, strings.Compare); len(got) != 2 {
+		t.Errorf("Rising = %q", got)
+	}
+	if got := checks.Rising([]string{"a", "a"}, strings.Compare); len(got) != 2 {
+		t.Errorf("Rising = %q", got)
+	}
+}
+
+func TestOrder(t *testing.T) {
+	if got := checks.Order([]string{"b", "a", "c", "a"}, strings.Compare); got != nil {
+		t.Errorf("Order = %q", got)
+	}
+	for name, compare := range map[string]func(a, b string) int{
+		"not turned": func(a, b string) int { return 1 },
+		"goes round": func(a, b string) int { return (int(b[0])-int(a[0])+4)%3 - 1 },
+		"only near": func(a, b string) int {
+			if d := int(a[0]) - int(b[0]); d < -1 || d > 1 {
+				return d / 2
+			}
+			return 0
+		},
+	} {
+		if got := checks.Order([]string{"a", "b", "c"}, compare); got == nil {
+			t.Errorf("Order takes one that is none: %s", name)
+		}
+	}
+}
