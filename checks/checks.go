@@ -8,12 +8,21 @@ import (
 
 // Texts is all texts over an alphabet, up to a length.
 func Texts(alphabet string, most int) []string {
+	var bytes []string
+	for i := range len(alphabet) {
+		bytes = append(bytes, alphabet[i:i+1])
+	}
+	return Rows(bytes, most)
+}
+
+// Rows is all rows of some pieces, each as one text, up to a count.
+func Rows(pieces []string, most int) []string {
 	all, last := []string{""}, []string{""}
 	for range most {
 		var longer []string
 		for _, s := range last {
-			for i := range len(alphabet) {
-				longer = append(longer, s+alphabet[i:i+1])
+			for _, piece := range pieces {
+				longer = append(longer, s+piece)
 			}
 		}
 		all, last = append(all, longer...), longer

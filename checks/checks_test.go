@@ -17,6 +17,15 @@ func TestTexts(t *testing.T) {
 	}
 }
 
+func TestRows(t *testing.T) {
+	if got := checks.Rows([]string{"a", "bc"}, 2); !slices.Equal(got, []string{"", "a", "bc", "aa", "abc", "bca", "bcbc"}) {
+		t.Errorf("Rows = %q", got)
+	}
+	if got := checks.Rows(nil, 3); !slices.Equal(got, []string{""}) {
+		t.Errorf("Rows = %q", got)
+	}
+}
+
 func TestRising(t *testing.T) {
 	if got := checks.Rising([]string{"a", "b", "c"}, strings.Compare); got != nil {
 		t.Errorf("Rising = %q", got)
