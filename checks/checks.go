@@ -3,7 +3,9 @@ package checks
 
 import (
 	"cmp"
+	"slices"
 	"strconv"
+	"strings"
 )
 
 // Texts is all texts over an alphabet, up to a length.
@@ -73,4 +75,40 @@ func goesOn(ab, bc, ac int) bool {
 		return false
 	}
 	return ab > 0 || bc > 0 || ac <= 0
+}
+
+// Sorts tells where sort does not make a list again of itself in other orders, changes what it is given, or hands it out.
+func Sorts(want []string, sort func([]string) []string) []string {
+	var wrong []string
+	for step := range 20 {
+		room := append(mixed(want, step/2+1, step%2 > 0), "spare room")
+		kept := slices.Clone(room)
+		got := sort(room[:len(want)])
+		if !slices.Equal(got, want) {
+			wrong = append(wrong, "sorted at step "+strconv.Itoa(step)+": "+strconv.Quote(strings.Join(got, " ")))
+		}
+		clear(got)
+		_ = append(got, "")
+		if !slices.Equal(room, kept) {
+			wrong = append(wrong, "changed at step "+strconv.Itoa(step))
+		}
+	}
+	if len(sort(nil)) > 0 || len(sort([]string{})) > 0 {
+		wrong = append(wrong, "something of nothing")
+	}
+	return wrong
+}
+
+// mixed is a list in another order (itself at step 1): what stands steps apart follows on each other, and all is perhaps turned round.
+func mixed(l []string, step int, turned bool) []string {
+	var m []string
+	for start := range step {
+		for i := start; i < len(l); i += step {
+			m = append(m, l[i])
+		}
+	}
+	if turned {
+		slices.Reverse(m)
+	}
+	return m
 }

@@ -57,3 +57,34 @@ func TestOrder(t *testing.T) {
 		}
 	}
 }
+
+func TestSorts(t *testing.T) {
+	want := []string{"a", "b", "c", "d", "e", "f", "g"}
+	good := func(l []string) []string { return slices.Sorted(slices.Values(l)) }
+	if got := checks.Sorts(want, good); got != nil {
+		t.Errorf("Sorts = %q", got)
+	}
+	for name, sort := range map[string]func(l []string) []string{
+		"nothing":  func(l []string) []string { return nil },
+		"as it is": func(l []string) []string { return slices.Clone(l) },
+		"turned":   func(l []string) []string { s := good(l); slices.Reverse(s); return s },
+		"in place": func(l []string) []string { slices.Sort(l); return l },
+		"changes": func(l []string) []string {
+			s := good(l)
+			clear(l)
+			return s
+		},
+		"spare room": func(l []string) []string { s := good(l); _ = append(l, ""); return s },
+		"hands out": func(l []string) []string {
+			if slices.IsSorted(l) {
+				return l
+			}
+			return good(l)
+		},
+		"of nothing": func(l []string) []string { return append(good(l), "x")[:max(1, len(l))] },
+	} {
+		if got := checks.Sorts(want, sort); got == nil {
+			t.Errorf("Sorts takes one that is none: %s", name)
+		}
+	}
+}

@@ -2,7 +2,6 @@ package semver_test
 
 import (
 	"math"
-	"math/rand"
 	"reflect"
 	"regexp"
 	"slices"
@@ -343,25 +342,10 @@ func TestCanon(t *testing.T) {
 	}
 }
 
-// P2.7
+// P2.7, and rule 0.5: the list that is handed in stays, with what lies in its spare room, and the answer is memory of its own.
 func TestSort(t *testing.T) {
-	want := append(noVersions(), ladder()...)
-	for seed := range int64(20) {
-		mixed := slices.Clone(want)
-		rand.New(rand.NewSource(seed)).Shuffle(len(mixed), func(i, j int) { mixed[i], mixed[j] = mixed[j], mixed[i] })
-		kept := slices.Clone(mixed)
-		if got := semver.Sort(mixed); !slices.Equal(got, want) {
-			t.Errorf("Sort = %q", got)
-		}
-		if !slices.Equal(mixed, kept) {
-			t.Error("Sort has changed the list that it was given")
-		}
-	}
-	if got := semver.Sort(nil); len(got) != 0 {
-		t.Errorf("Sort(nil) = %q", got)
-	}
-	if got := semver.Sort([]string{}); len(got) != 0 {
-		t.Errorf("Sort of none = %q", got)
+	for _, wrong := range checks.Sorts(append(noVersions(), ladder()...), semver.Sort) {
+		t.Error("Sort: " + wrong)
 	}
 }
 
@@ -445,9 +429,6 @@ func TestListsStay(t *testing.T) {
 	for part := range 4 {
 		semver.Next(v, part)
 	}
-	if got := semver.Sort(room[:2]); len(got) != 2 || got[0] != "a" {
-		t.Errorf("Sort = %q", got)
-	}
 	if want := []string{"b", "a", "spare", "room"}; !slices.Equal(room, want) {
 		t.Errorf("the lists are now %q", room)
 	}
@@ -459,10 +440,5 @@ func TestListsStay(t *testing.T) {
 	x.Pre[2] = "q"
 	if y := mustParse(t, "1.2.3-a.b.c+d.e"); semver.Format(y) != "1.2.3-a.b.c+d.e" || !slices.Equal(x.Build, []string{"d", "e"}) {
 		t.Errorf("Parse = %q, then %q", x, y)
-	}
-	l := []string{"1.0.0"}
-	semver.Sort(l)[0] = "2.0.0"
-	if l[0] != "1.0.0" {
-		t.Error("Sort's answer is the list that it was given")
 	}
 }
