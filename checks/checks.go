@@ -45,6 +45,21 @@ func Rising(l []string, compare func(a, b string) int) []string {
 	return wrong
 }
 
+// Alike tells the pairs of a row, each text with itself among them, that compare does not find alike.
+func Alike(rows [][]string, compare func(a, b string) int) []string {
+	var wrong []string
+	for _, row := range rows {
+		for _, a := range row {
+			for _, b := range row {
+				if got := compare(a, b); got != 0 {
+					wrong = append(wrong, strconv.Quote(a)+" to "+strconv.Quote(b)+" is "+strconv.Itoa(got)+", not alike")
+				}
+			}
+		}
+	}
+	return wrong
+}
+
 // Order tells where compare is no order of a list: turned round it must be turned, go on from pair to pair, and what is alike must be alike with all.
 func Order(l []string, compare func(a, b string) int) []string {
 	answers := make([][]int, len(l))

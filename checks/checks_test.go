@@ -38,6 +38,19 @@ func TestRising(t *testing.T) {
 	}
 }
 
+func TestAlike(t *testing.T) {
+	length := func(a, b string) int { return len(a) - len(b) }
+	if got := checks.Alike([][]string{{"a", "b"}, {"", ""}, {"cc", "dd", "ee"}, nil}, length); got != nil {
+		t.Errorf("Alike = %q", got)
+	}
+	if got := checks.Alike([][]string{{"a"}, {"b", "cc"}}, length); len(got) != 2 {
+		t.Errorf("Alike = %q", got)
+	}
+	if got := checks.Alike([][]string{{"a"}}, func(a, b string) int { return 1 }); len(got) != 1 {
+		t.Errorf("Alike = %q", got)
+	}
+}
+
 func TestOrder(t *testing.T) {
 	if got := checks.Order([]string{"b", "a", "c", "a"}, strings.Compare); got != nil {
 		t.Errorf("Order = %q", got)

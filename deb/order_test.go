@@ -29,17 +29,12 @@ func TestPart(t *testing.T) {
 	for _, wrong := range checks.Rising(partLadder(), deb.Part) {
 		t.Error("Part: " + wrong)
 	}
-	for _, same := range [][]string{
+	same := [][]string{
 		{"", "0", "000"}, {"1", "01", "0001"}, {"a", "a0", "a00"}, {"1.", "1.0", "01.00"}, {"1.2", "1.02", "01.002"}, {"1a2b", "1a02b0"}, {"~", "~0", "~00"}, {"0~", "00~", "0~000"}, {"a.b", "a.b0", "a.b000"},
 		{far, "0" + far}, {farther + "a" + farther, "00" + farther + "a0" + farther}, {strings.Repeat("9", 500), strings.Repeat("0", 300) + strings.Repeat("9", 500)},
-	} {
-		for _, a := range same {
-			for _, b := range same {
-				if got := deb.Part(a, b); got != 0 {
-					t.Errorf("Part(%q, %q) = %d", a, b, got)
-				}
-			}
-		}
+	}
+	for _, wrong := range checks.Alike(same, deb.Part) {
+		t.Error("Part: " + wrong)
 	}
 	for _, c := range []struct {
 		a, b string
@@ -145,17 +140,12 @@ func TestOrder(t *testing.T) {
 	for _, wrong := range checks.Rising(ladder(), order) {
 		t.Error("Order: " + wrong)
 	}
-	for _, same := range [][]string{
+	same := [][]string{
 		{"1", "0:1", "000:1", "1-0", "01-00", "0:001-0"}, {"1:2", "01:2", "0001:02-0"}, {"1.002", "1.2"}, {"1-a", "1-a0"}, {"1.", "1.0", "1.-0"},
 		{"1:2:3", "01:2:03-0"}, {farther + ":1", "0" + farther + ":1"}, {"0:1:2", "00:1:02"},
-	} {
-		for _, a := range same {
-			for _, b := range same {
-				if order(a, b) != 0 || deb.Compare(a, b) != 0 {
-					t.Errorf("%q and %q are not alike", a, b)
-				}
-			}
-		}
+	}
+	for _, wrong := range slices.Concat(checks.Alike(same, order), checks.Alike(same, deb.Compare)) {
+		t.Error("Order, Compare: " + wrong)
 	}
 }
 

@@ -85,17 +85,12 @@ func TestOrderOfStages(t *testing.T) {
 
 // P3.5: parts "0" at a release's end play no part.
 func TestOrderOfReleases(t *testing.T) {
-	for _, same := range [][]string{
+	same := [][]string{
 		{"1", "1.0", "1.0.0", "1.00.000", "01"}, {"0", "0.0", "0.0.0"}, {"1.0.1", "1.0.1.0"}, {"1a1", "1.0a1", "1.0.0.a1"}, {"1!0", "1!0.0"}, {"1+a", "1.0+a"}, {"2.dev1", "2.0.dev1"}, {"2-1", "2.0.post1"},
 		{far, far + ".0"}, {"10", "10.0"}, {"0!3.0.0.0", "3"},
-	} {
-		for _, a := range same {
-			for _, b := range same {
-				if pep.Compare(a, b) != 0 || orderOfTexts(t)(a, b) != 0 {
-					t.Errorf("%q and %q are not alike", a, b)
-				}
-			}
-		}
+	}
+	for _, wrong := range slices.Concat(checks.Alike(same, orderOfTexts(t)), checks.Alike(same, pep.Compare)) {
+		t.Error("Order, Compare: " + wrong)
 	}
 	many := api.Pep{Epoch: "0", Release: append([]string{"1"}, slices.Repeat([]string{"0"}, 300)...)}
 	more := api.Pep{Epoch: "0", Release: append(slices.Clone(many.Release), "1")}
@@ -135,11 +130,9 @@ func TestCompare(t *testing.T) {
 		for _, wrong := range checks.Rising(append([]string{none}, ladder()...), pep.Compare) {
 			t.Error("Compare: " + wrong)
 		}
-		for _, other := range noVersions() {
-			if got := pep.Compare(none, other); got != 0 {
-				t.Errorf("Compare(%q, %q) = %d", none, other, got)
-			}
-		}
+	}
+	for _, wrong := range checks.Alike([][]string{noVersions()}, pep.Compare) {
+		t.Error("Compare: " + wrong)
 	}
 }
 

@@ -27,10 +27,64 @@ func TestCompare(t *testing.T) {
 	for _, wrong := range checks.Rising([]string{"", "999", "a", "b", "\xff", "9", "5x", "1", "0"}, compare) {
 		t.Error("Compare: " + wrong)
 	}
-	for _, pair := range [][2]string{{"5", "5x"}, {"5y", "5x"}, {"", ""}, {"a", "a"}} {
-		if compare(pair[0], pair[1]) != 0 {
-			t.Errorf("%q and %q are not alike", pair[0], pair[1])
+	for _, wrong := range checks.Alike([][]string{{"5", "5x", "5y"}, {""}, {"a"}}, compare) {
+		t.Error("Compare: " + wrong)
+	}
+}
+
+func TestCompareLoosely(t *testing.T) {
+	loosely := func(a, b string) int { return texts.CompareLoosely(a, b, parse, fall) }
+	none := []string{"", "999", "a", "b", "\xff"}
+	for _, a := range none {
+		for _, wrong := range checks.Rising([]string{a, "9", "5x", "1", "0"}, loosely) {
+			t.Error("CompareLoosely: " + wrong)
 		}
+	}
+	for _, wrong := range checks.Alike([][]string{none, {"5", "5x", "5y"}}, loosely) {
+		t.Error("CompareLoosely: " + wrong)
+	}
+}
+
+func TestEpoch(t *testing.T) {
+	for _, c := range []struct {
+		s, epoch string
+		behind   int
+	}{
+		{"1:2", "1", 2}, {"10:", "10", 3}, {"007:a", "7", 4}, {"0:1", "0", 2}, {"000:", "0", 4}, {"1:2:3", "1", 2}, {"18446744073709551616:1", "18446744073709551616", 21},
+		{"", "0", 0}, {"1", "0", 0}, {":", "0", 0}, {":1", "0", 0}, {"a:1", "0", 0}, {"1a:1", "0", 0}, {"1.2:3", "0", 0}, {" 1:2", "0", 0}, {"1 :2", "0", 0}, {"1;2", "0", 0}, {"\xd9\xa1:1", "0", 0},
+	} {
+		if epoch, behind := texts.Epoch(c.s); epoch != c.epoch || behind != c.behind {
+			t.Errorf("Epoch(%q) = %q, %d", c.s, epoch, behind)
+		}
+	}
+}
+
+// cutTwo is a text's first two bytes, and "-" of nothing.
+func cutTwo(s string) (string, string) {
+	if s == "" {
+		return "-", ""
+	}
+	end := min(2, len(s))
+	return s[:end], s[end:]
+}
+
+func TestSideBySide(t *testing.T) {
+	for pair, want := range map[[2]string][]string{
+		{"", ""}: nil, {"abcd", "ABCD"}: {"ab AB", "cd CD"}, {"abc", "AB"}: {"ab AB", "c -"}, {"", "ABCD"}: {"- AB", "- CD"}, {"a", ""}: {"a -"},
+	} {
+		var got []string
+		for x, y := range texts.SideBySide(pair[0], pair[1], cutTwo) {
+			got = append(got, x+" "+y)
+		}
+		if !slices.Equal(got, want) {
+			t.Errorf("SideBySide(%q) = %q", pair, got)
+		}
+	}
+	for x, y := range texts.SideBySide("abcd", "ABCD", cutTwo) {
+		if x != "ab" || y != "AB" {
+			t.Errorf("%q and %q first", x, y)
+		}
+		break
 	}
 }
 
