@@ -127,3 +127,17 @@ func mixed(l []string, step int, turned bool) []string {
 	}
 	return m
 }
+
+// Stays tells where sort does not leave texts that are alike in their order. early is texts that are alike, late likewise, all of them behind those of early.
+func Stays(early, late []string, sort func([]string) []string) []string {
+	var l, first, last []string
+	for i := range 200 {
+		// Squares bring each list's texts in no even order.
+		a, b := early[i*i%len(early)], late[(i*i+i/len(late))%len(late)]
+		l, first, last = append(l, b, a), append(first, a), append(last, b)
+	}
+	if got := sort(l); !slices.Equal(got, slices.Concat(first, last)) {
+		return []string{"the alike don't stay in their order: " + strconv.Quote(strings.Join(got, " "))}
+	}
+	return nil
+}

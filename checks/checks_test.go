@@ -101,3 +101,28 @@ func TestSorts(t *testing.T) {
 		}
 	}
 }
+
+func TestStays(t *testing.T) {
+	early, late := []string{"a", "A", "a "}, []string{"b", "b ", "B", "B "}
+	form := func(s string) string { return strings.ToLower(strings.TrimSpace(s)) }
+	good := func(l []string) []string {
+		return slices.SortedStableFunc(slices.Values(l), func(a, b string) int { return strings.Compare(form(a), form(b)) })
+	}
+	if got := checks.Stays(early, late, good); got != nil {
+		t.Errorf("Stays = %q", got)
+	}
+	for name, sort := range map[string]func(l []string) []string{
+		"as it is":     func(l []string) []string { return slices.Clone(l) },
+		"byte by byte": func(l []string) []string { return slices.Sorted(slices.Values(l)) },
+		"loses one":    func(l []string) []string { return good(l)[1:] },
+		"turned": func(l []string) []string {
+			s := slices.Clone(l)
+			slices.Reverse(s)
+			return good(s)
+		},
+	} {
+		if got := checks.Stays(early, late, sort); got == nil {
+			t.Errorf("Stays takes one that doesn't: %s", name)
+		}
+	}
+}

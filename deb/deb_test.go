@@ -188,16 +188,7 @@ func TestSort(t *testing.T) {
 func TestSortKeepsTheAlike(t *testing.T) {
 	early := []string{"1.2", "0:1.2", "01.2", "1.002-0", "1.2-00", "00:1.02"}
 	late := []string{"2:1", "02:1", "2:01", "2:1-0", "002:1-00", "2:001"}
-	var l, first, last []string
-	for i := range 200 {
-		a, b := early[i*i%6], late[(i*i+i/6)%6]
-		l, first, last = append(l, b, a), append(first, a), append(last, b)
-	}
-	if got := deb.Sort(l); !slices.Equal(got, slices.Concat(first, last)) {
-		t.Errorf("Sort = %q", got)
-	}
-	twice := []string{"x", "1", "x", "1"}
-	if got := deb.Sort(twice); !slices.Equal(got, []string{"x", "x", "1", "1"}) {
-		t.Errorf("Sort(%q) = %q", twice, got)
+	for _, wrong := range checks.Stays(early, late, deb.Sort) {
+		t.Error("Sort: " + wrong)
 	}
 }

@@ -5,7 +5,6 @@ import (
 	"reflect"
 	"regexp"
 	"slices"
-	"strconv"
 	"strings"
 	"testing"
 
@@ -351,23 +350,10 @@ func TestSort(t *testing.T) {
 
 // P2.7: the alike stay in their order.
 func TestSortKeepsTheAlike(t *testing.T) {
-	var l, want []string
-	for i := range 100 {
-		for major := 3; major >= 0; major-- {
-			l = append(l, strconv.Itoa(major)+".0.0+"+strconv.Itoa((i*37)%100))
-		}
-	}
-	for major := range 4 {
-		for i := range 100 {
-			want = append(want, strconv.Itoa(major)+".0.0+"+strconv.Itoa((i*37)%100))
-		}
-	}
-	if got := semver.Sort(l); !slices.Equal(got, want) {
-		t.Errorf("Sort = %q", got)
-	}
-	twice := []string{"x", "1.0.0", "x", "1.0.0"}
-	if got := semver.Sort(twice); !slices.Equal(got, []string{"x", "x", "1.0.0", "1.0.0"}) {
-		t.Errorf("Sort(%q) = %q", twice, got)
+	early := []string{"1.0.0-a", "1.0.0-a+2", "1.0.0-a+1", "1.0.0-a+-", "1.0.0-a+x.y"}
+	late := []string{"1.0.0+37", "1.0.0", "1.0.0+4", "1.0.0+z", "1.0.0+00"}
+	for _, wrong := range checks.Stays(early, late, semver.Sort) {
+		t.Error("Sort: " + wrong)
 	}
 }
 
