@@ -19,12 +19,21 @@ func Texts(alphabet string, most int) []string {
 
 // Rows is all rows of some pieces, each as one text, up to a count.
 func Rows(pieces []string, most int) []string {
-	all, last := []string{""}, []string{""}
+	var all []string
+	for _, row := range Lists(pieces, most) {
+		all = append(all, strings.Join(row, ""))
+	}
+	return all
+}
+
+// Lists is all lists of some items, up to a count, the shorter ones first.
+func Lists[T any](items []T, most int) [][]T {
+	all, last := [][]T{nil}, [][]T{nil}
 	for range most {
-		var longer []string
-		for _, s := range last {
-			for _, piece := range pieces {
-				longer = append(longer, s+piece)
+		var longer [][]T
+		for _, list := range last {
+			for _, item := range items {
+				longer = append(longer, append(slices.Clone(list), item))
 			}
 		}
 		all, last = append(all, longer...), longer

@@ -26,6 +26,26 @@ func TestRows(t *testing.T) {
 	}
 }
 
+func TestLists(t *testing.T) {
+	got := checks.Lists([]int{3, 5}, 2)
+	if want := [][]int{nil, {3}, {5}, {3, 3}, {3, 5}, {5, 3}, {5, 5}}; !slices.EqualFunc(got, want, slices.Equal[[]int]) {
+		t.Errorf("Lists = %v", got)
+	}
+	for _, list := range got {
+		clear(list)
+		_ = append(list, 7)
+	}
+	if !slices.Equal(slices.Concat(got...), make([]int, 10)) {
+		t.Errorf("lists share memory: %v", got)
+	}
+	if got := checks.Lists([]int{}, 3); len(got) != 1 || len(got[0]) != 0 {
+		t.Errorf("Lists = %v", got)
+	}
+	if got := checks.Lists([]int{3, 5}, 0); len(got) != 1 || len(got[0]) != 0 {
+		t.Errorf("Lists = %v", got)
+	}
+}
+
 func TestRising(t *testing.T) {
 	if got := checks.Rising([]string{"a", "b", "c"}, strings.Compare); got != nil {
 		t.Errorf("Rising = %q", got)

@@ -90,17 +90,7 @@ func everyRow(list []string) [][]api.MvnTok {
 			singles = append(singles, api.MvnTok{Dash: dash, Text: text}, api.MvnTok{Dash: dash, Num: true, Text: text})
 		}
 	}
-	rows, last := [][]api.MvnTok{nil}, [][]api.MvnTok{nil}
-	for range 3 {
-		var longer [][]api.MvnTok
-		for _, row := range last {
-			for _, one := range singles {
-				longer = append(longer, append(slices.Clone(row), one))
-			}
-		}
-		rows, last = append(rows, longer...), longer
-	}
-	return rows
+	return checks.Lists(singles, 3)
 }
 
 // P6.2 by its words, and P6.9 from the tokens to their text and back.
