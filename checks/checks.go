@@ -41,6 +41,16 @@ func Lists[T any](items []T, most int) [][]T {
 	return all
 }
 
+// Begins is how many bytes of a text, from its beginning on, a whole one can begin with. ends is what makes a text whole that can be.
+func Begins(s string, ends []string, whole func(string) bool) int {
+	for i := range len(s) {
+		if !slices.ContainsFunc(ends, func(end string) bool { return whole(s[:i+1] + end) }) {
+			return i
+		}
+	}
+	return len(s)
+}
+
 // Rising tells the pairs of a list that compare does not put where they stand, the first one ahead of all.
 func Rising(l []string, compare func(a, b string) int) []string {
 	var wrong []string

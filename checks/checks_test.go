@@ -46,6 +46,15 @@ func TestLists(t *testing.T) {
 	}
 }
 
+func TestBegins(t *testing.T) {
+	whole := func(s string) bool { return s == "" || s == "ab" || s == "abcd" }
+	for s, want := range map[string]int{"": 0, "a": 1, "ab": 2, "abc": 3, "abcd": 4, "x": 0, "ax": 1, "abx": 2, "abdc": 2, "abcde": 4} {
+		if got := checks.Begins(s, []string{"", "b", "d"}, whole); got != want {
+			t.Errorf("Begins(%q) = %d", s, got)
+		}
+	}
+}
+
 func TestRising(t *testing.T) {
 	if got := checks.Rising([]string{"a", "b", "c"}, strings.Compare); got != nil {
 		t.Errorf("Rising = %q", got)

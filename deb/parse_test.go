@@ -140,24 +140,14 @@ func (o oracle) version(s string) (api.DebVer, bool) {
 	return api.DebVer{}, false
 }
 
-func (o oracle) goesOn(s string) bool {
-	for _, end := range []string{"", "0", "-0"} {
-		if _, ok := o.version(s + end); ok {
-			return true
-		}
-	}
-	return false
-}
-
 // parse is P4.1 by its words: the first byte behind which no end makes a version of the text.
 func (o oracle) parse(s string) (api.DebVer, api.Fault) {
 	if v, ok := o.version(s); ok {
 		return v, api.Fault{}
 	}
-	for i := range len(s) {
-		if !o.goesOn(s[:i+1]) {
-			return api.DebVer{}, api.Fault{Err: api.ErrForm, At: i}
-		}
+	whole := func(s string) bool { _, ok := o.version(s); return ok }
+	if at := checks.Begins(s, []string{"", "0", "-0"}, whole); at < len(s) {
+		return api.DebVer{}, api.Fault{Err: api.ErrForm, At: at}
 	}
 	return api.DebVer{}, api.Fault{Err: api.ErrShort, At: len(s)}
 }

@@ -6,6 +6,7 @@ import (
 
 	"dovetail/api"
 	"dovetail/scan"
+	"dovetail/texts"
 )
 
 // marks is the bytes that may stand ahead of a word, of its number, and between parts of the local one.
@@ -41,12 +42,7 @@ func (r *reader) version() (api.Pep, api.Errno) {
 }
 
 // misfit is the error where a part must stand and does not.
-func (r *reader) misfit() api.Errno {
-	if r.at == len(r.text) {
-		return api.ErrShort
-	}
-	return api.ErrForm
-}
+func (r *reader) misfit() api.Errno { return texts.Misfit(r.text, r.at) }
 
 func (r *reader) rest() string { return r.text[r.at:] }
 

@@ -132,29 +132,17 @@ func newFaultOf() faultOf {
 	}
 }
 
-func (o faultOf) goesOn(s string) bool {
-	for _, end := range []string{"", "0", "a", ".0", "0.0", ".0.0", "0.0.0"} {
-		if o.version.MatchString(s + end) {
-			return true
-		}
-	}
-	return false
-}
-
 func (o faultOf) of(s string) api.Fault {
-	for i := range len(s) {
-		switch {
-		case o.goesOn(s[:i+1]):
-		case o.zeroNumber.MatchString(s[:i+1]) || o.zeroPre.MatchString(s[:i+1]):
-			return api.Fault{Err: api.ErrZero, At: i}
-		default:
-			return api.Fault{Err: api.ErrForm, At: i}
-		}
+	at := checks.Begins(s, []string{"", "0", "a", ".0", "0.0", ".0.0", "0.0.0"}, o.version.MatchString)
+	switch {
+	case o.version.MatchString(s):
+		return api.Fault{}
+	case at == len(s):
+		return api.Fault{Err: api.ErrShort, At: at}
+	case o.zeroNumber.MatchString(s[:at+1]) || o.zeroPre.MatchString(s[:at+1]):
+		return api.Fault{Err: api.ErrZero, At: at}
 	}
-	if !o.version.MatchString(s) {
-		return api.Fault{Err: api.ErrShort, At: len(s)}
-	}
-	return api.Fault{}
+	return api.Fault{Err: api.ErrForm, At: at}
 }
 
 // everyText is all short texts, and all short ends behind some beginnings.

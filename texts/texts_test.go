@@ -45,6 +45,12 @@ func TestCompareLoosely(t *testing.T) {
 	}
 }
 
+func TestMisfit(t *testing.T) {
+	if texts.Misfit("", 0) != api.ErrShort || texts.Misfit("ab", 2) != api.ErrShort || texts.Misfit("ab", 0) != api.ErrForm || texts.Misfit("ab", 1) != api.ErrForm {
+		t.Error("a text's end, or not")
+	}
+}
+
 func TestEpoch(t *testing.T) {
 	for _, c := range []struct {
 		s, epoch string
