@@ -92,3 +92,14 @@ func Sort[V any](l []string, parse func(string) (V, api.Fault), order func(a, b 
 	}
 	return sorted
 }
+
+// Latest is the one of the texts that are wanted that is behind all others, of several the first; "" and false, if none is wanted.
+func Latest(l []string, wanted func(string) bool, compare func(a, b string) int) (string, bool) {
+	latest, found := "", false
+	for _, s := range l {
+		if wanted(s) && (!found || compare(s, latest) > 0) {
+			latest, found = s, true
+		}
+	}
+	return latest, found
+}

@@ -112,3 +112,20 @@ func TestSort(t *testing.T) {
 		}
 	}
 }
+
+func TestLatest(t *testing.T) {
+	short := func(s string) bool { return len(s) < 3 }
+	for _, c := range []struct {
+		l    []string
+		want string
+		ok   bool
+	}{
+		{nil, "", false}, {[]string{}, "", false}, {[]string{"999", "000"}, "", false}, {[]string{""}, "", true}, {[]string{"a"}, "a", true},
+		{[]string{"9", "1", "5"}, "1", true}, {[]string{"5x", "5", "5y", "9"}, "5x", true}, {[]string{"000", "9", "000"}, "9", true}, {[]string{"b", "a", ""}, "b", true}, {[]string{"", "a"}, "a", true},
+	} {
+		kept := slices.Clone(c.l)
+		if got, ok := texts.Latest(c.l, short, compare); got != c.want || ok != c.ok || !slices.Equal(c.l, kept) {
+			t.Errorf("Latest(%q) = %q, %v", kept, got, ok)
+		}
+	}
+}
