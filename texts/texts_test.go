@@ -51,6 +51,31 @@ func TestMisfit(t *testing.T) {
 	}
 }
 
+func TestCaught(t *testing.T) {
+	read := func(s string) (string, api.Fault) {
+		return texts.Caught(func() string {
+			if s == "wrong" {
+				panic(api.Fault{Err: api.ErrWord, At: 3})
+			}
+			return s
+		})
+	}
+	for range 2 {
+		if s, f := read("right"); s != "right" || f != (api.Fault{}) {
+			t.Errorf("Caught = %q, %v", s, f)
+		}
+		if s, f := read("wrong"); s != "" || f != (api.Fault{Err: api.ErrWord, At: 3}) {
+			t.Errorf("Caught = %q, %v", s, f)
+		}
+	}
+	defer func() {
+		if other := recover(); other != "other" {
+			t.Errorf("%v goes on", other)
+		}
+	}()
+	texts.Caught(func() int { panic("other") })
+}
+
 func TestEpoch(t *testing.T) {
 	for _, c := range []struct {
 		s, epoch string
