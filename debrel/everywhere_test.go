@@ -106,24 +106,6 @@ func samples() []string {
 	}
 }
 
-// edited is a text with one byte left out, put in, or in another one's place.
-func edited(s string) []string {
-	const bytes = "a0A-+.: \n,|()<>=[]!~_\x00\xff"
-	var l []string
-	for at := range len(s) + 1 {
-		for i := range len(bytes) {
-			l = append(l, s[:at]+bytes[i:i+1]+s[at:])
-			if at < len(s) {
-				l = append(l, s[:at]+bytes[i:i+1]+s[at+1:])
-			}
-		}
-		if at < len(s) {
-			l = append(l, s[:at]+s[at+1:])
-		}
-	}
-	return l
-}
-
 // everyRelation is all short rows of what relations are made of, behind some beginnings, and samples with each byte another one.
 func everyRelation() []string {
 	l := slices.Concat(
@@ -137,7 +119,7 @@ func everyRelation() []string {
 		l = append(l, "aa["+row, "aa <"+row, "aa[x "+row, "aa [!x "+row, "aa <x> <!x "+row)
 	}
 	for _, s := range samples() {
-		l = append(l, edited(s)...)
+		l = append(l, checks.Edited(s, "a0A-+.: \n,|()<>=[]!~_\x00\xff")...)
 	}
 	return l
 }

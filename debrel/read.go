@@ -3,7 +3,7 @@ package debrel
 import (
 	"dovetail/api"
 	"dovetail/deb"
-	"dovetail/texts"
+	"dovetail/faults"
 )
 
 // reader takes a relation token by token. At the first one that may not stand where it does it panics with its fault.
@@ -33,7 +33,7 @@ func read(s string) [][]api.DebAlt {
 
 // misfit is the fault where something else must stand at a place.
 func (r *reader) misfit(at int) api.Fault {
-	return api.Fault{Err: texts.Misfit(r.text, at), At: at}
+	return api.Fault{Err: faults.Misfit(r.text, at), At: at}
 }
 
 // word is the text of a token that must be a name.

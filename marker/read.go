@@ -6,9 +6,9 @@ import (
 	"strings"
 
 	"dovetail/api"
+	"dovetail/faults"
 	"dovetail/pyspec"
 	"dovetail/scan"
-	"dovetail/texts"
 )
 
 // reader goes over a text, part by part. At the first part that is wrong it panics with its fault, so that no part need ask how those within it went.
@@ -21,7 +21,7 @@ type reader struct {
 
 // readWhole reads a text that is just such a part.
 func readWhole[T any](s string, part func(*reader) T) (T, api.Fault) {
-	return texts.Caught(func() T {
+	return faults.Caught(func() T {
 		if len(s) > api.MaxSpec {
 			panic(api.Fault{Err: api.ErrLong, At: api.MaxSpec})
 		}
@@ -35,7 +35,7 @@ func (r *reader) rest() string { return r.text[r.at:] }
 
 // misfit is the fault where something else must stand next.
 func (r *reader) misfit() api.Fault {
-	return api.Fault{Err: texts.Misfit(r.text, r.at), At: r.at}
+	return api.Fault{Err: faults.Misfit(r.text, r.at), At: r.at}
 }
 
 // wrong is misfit within a marker: there what stands next may be a word that is none of those that may.

@@ -5,8 +5,8 @@ import (
 	"strings"
 
 	"dovetail/api"
+	"dovetail/faults"
 	"dovetail/scan"
-	"dovetail/texts"
 )
 
 // readSoft reads a text that is one version.
@@ -16,7 +16,7 @@ func readSoft(s string) (string, api.Fault) {
 	case err != api.OK:
 		return "", api.Fault{Err: err, At: at}
 	case version == "" || at < len(s):
-		return "", api.Fault{Err: texts.Misfit(s, at), At: at}
+		return "", api.Fault{Err: faults.Misfit(s, at), At: at}
 	}
 	return version, api.Fault{}
 }
@@ -86,7 +86,7 @@ func readComma(s string, at int) (int, api.Errno) {
 	}
 	next := scan.Run(s, at+1, api.CsBlank)
 	if !isAt(s, next, "[(") {
-		return next, texts.Misfit(s, next)
+		return next, faults.Misfit(s, next)
 	}
 	return next, api.OK
 }
@@ -103,7 +103,7 @@ func readRange(s string, start int) (api.Mrange, int, api.Errno) {
 	case err != api.OK:
 		return api.Mrange{}, at, err
 	case !isAt(s, at, "])"):
-		return api.Mrange{}, at, texts.Misfit(s, at)
+		return api.Mrange{}, at, faults.Misfit(s, at)
 	}
 	r := api.Mrange{
 		HasLo: lo != "", Lo: lo, LoIn: s[start] == '[',

@@ -5,9 +5,9 @@ import (
 	"strings"
 
 	"dovetail/api"
+	"dovetail/faults"
 	"dovetail/scan"
 	"dovetail/semver"
-	"dovetail/texts"
 )
 
 // partial is a version of which only the first numbers may be told. The beginning has 0 for the others.
@@ -76,7 +76,7 @@ func readFrom(s string, at int) (partial, int, bool) {
 func readTo(s string, at int) (partial, int, api.Errno) {
 	start := scan.Run(s, at, api.CsBlank)
 	if start == at {
-		return partial{}, at, texts.Misfit(s, at)
+		return partial{}, at, faults.Misfit(s, at)
 	}
 	return readPartial(s, start)
 }
@@ -134,7 +134,7 @@ func readNumber(s string, at int) (end int, open bool, err api.Errno) {
 	end = scan.Run(s, at, api.CsDigit)
 	switch {
 	case end == at:
-		return at, false, texts.Misfit(s, at)
+		return at, false, faults.Misfit(s, at)
 	case s[at] == '0' && end > at+1:
 		return at + 1, false, api.ErrZero
 	}
@@ -159,7 +159,7 @@ func readPre(s string, at int) ([]string, int, api.Errno) {
 		// Digits are too short only by the zero ahead of them: a letter would have to stand here.
 		return nil, end, api.ErrZero
 	}
-	return nil, end, texts.Misfit(s, end)
+	return nil, end, faults.Misfit(s, end)
 }
 
 // preEnd is the place of the first byte that can stand neither in Pre nor in Build.
@@ -175,7 +175,7 @@ func readBars(s string, at, sets int) (int, api.Errno) {
 	second := at + 1
 	switch {
 	case prefix(s, second, "|") == "":
-		return second, texts.Misfit(s, second)
+		return second, faults.Misfit(s, second)
 	case sets == api.MaxTerms:
 		return second, api.ErrLong
 	}

@@ -5,8 +5,8 @@ import (
 	"strings"
 
 	"dovetail/api"
+	"dovetail/faults"
 	"dovetail/scan"
-	"dovetail/texts"
 )
 
 // marks is the bytes that may stand ahead of a word, of its number, and between parts of the local one.
@@ -42,7 +42,7 @@ func (r *reader) version() (api.Pep, api.Errno) {
 }
 
 // misfit is the error where a part must stand and does not.
-func (r *reader) misfit() api.Errno { return texts.Misfit(r.text, r.at) }
+func (r *reader) misfit() api.Errno { return faults.Misfit(r.text, r.at) }
 
 func (r *reader) rest() string { return r.text[r.at:] }
 

@@ -5,9 +5,9 @@ import (
 	"strings"
 
 	"dovetail/api"
+	"dovetail/faults"
 	"dovetail/pep"
 	"dovetail/scan"
-	"dovetail/texts"
 )
 
 // anyRest is what stands behind a version of which only the beginning is asked for.
@@ -100,7 +100,7 @@ func readOperator(s string, at int) (operator, int, api.Errno) {
 		reach = max(reach, at+common)
 	}
 	if longest.sign == "" {
-		return operator{}, reach, texts.Misfit(s, reach)
+		return operator{}, reach, faults.Misfit(s, reach)
 	}
 	return longest, at + len(longest.sign), api.OK
 }
@@ -121,7 +121,7 @@ func readWord(s string, start int, reads reader) (version, int, api.Errno) {
 		end++
 	}
 	if end == start {
-		return version{}, start, texts.Misfit(s, start)
+		return version{}, start, faults.Misfit(s, start)
 	}
 	v, f := reads(s[start:end])
 	if f.Err != api.OK {

@@ -4,9 +4,9 @@ import (
 	"strings"
 
 	"dovetail/api"
+	"dovetail/faults"
 	"dovetail/rpm"
 	"dovetail/scan"
-	"dovetail/texts"
 )
 
 const (
@@ -77,7 +77,7 @@ func read(s string) api.Rich {
 func (r *reader) fail(err api.Errno, at int) { panic(api.Fault{Err: err, At: at}) }
 
 // misfit fails where something else must stand next.
-func (r *reader) misfit() { r.fail(texts.Misfit(r.text, r.at), r.at) }
+func (r *reader) misfit() { r.fail(faults.Misfit(r.text, r.at), r.at) }
 
 func (r *reader) rest() string { return r.text[r.at:] }
 

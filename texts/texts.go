@@ -10,28 +10,6 @@ import (
 	"dovetail/scan"
 )
 
-// Misfit is the error where a part of a text can't begin or go on: at the text's end, or at a byte.
-func Misfit(s string, at int) api.Errno {
-	if at == len(s) {
-		return api.ErrShort
-	}
-	return api.ErrForm
-}
-
-// Caught is what read tells, or the fault with which it panics to give its text up. Any other panic goes on.
-func Caught[V any](read func() V) (value V, f api.Fault) {
-	defer func() {
-		switch thrown := recover().(type) {
-		case nil:
-		case api.Fault:
-			f = thrown
-		default:
-			panic(thrown)
-		}
-	}()
-	return read(), api.Fault{}
-}
-
 // Epoch is the epoch at the head of a version, without noughts ahead, and the place behind its ":". They are "0" and 0, where the text does not begin with digits and a ":".
 func Epoch(s string) (string, int) {
 	end := scan.Run(s, 0, api.CsDigit)

@@ -45,37 +45,6 @@ func TestCompareLoosely(t *testing.T) {
 	}
 }
 
-func TestMisfit(t *testing.T) {
-	if texts.Misfit("", 0) != api.ErrShort || texts.Misfit("ab", 2) != api.ErrShort || texts.Misfit("ab", 0) != api.ErrForm || texts.Misfit("ab", 1) != api.ErrForm {
-		t.Error("a text's end, or not")
-	}
-}
-
-func TestCaught(t *testing.T) {
-	read := func(s string) (string, api.Fault) {
-		return texts.Caught(func() string {
-			if s == "wrong" {
-				panic(api.Fault{Err: api.ErrWord, At: 3})
-			}
-			return s
-		})
-	}
-	for range 2 {
-		if s, f := read("right"); s != "right" || f != (api.Fault{}) {
-			t.Errorf("Caught = %q, %v", s, f)
-		}
-		if s, f := read("wrong"); s != "" || f != (api.Fault{Err: api.ErrWord, At: 3}) {
-			t.Errorf("Caught = %q, %v", s, f)
-		}
-	}
-	defer func() {
-		if other := recover(); other != "other" {
-			t.Errorf("%v goes on", other)
-		}
-	}()
-	texts.Caught(func() int { panic("other") })
-}
-
 func TestEpoch(t *testing.T) {
 	for _, c := range []struct {
 		s, epoch string
