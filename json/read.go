@@ -7,6 +7,7 @@ import (
 
 	"dovetail/api"
 	"dovetail/faults"
+	"dovetail/sets"
 )
 
 const (
@@ -23,84 +24,43 @@ const (
 	firstPair  = 0x10000
 )
 
-// reader goes over a text, byte by byte. At the first one with which no text goes on it panics with its fault, so that no part need ask how those within it went.
+// reader goes over a text, value by value.
 type reader struct {
-	text string
-	at   int
+	faults.Reader
 	// How many lists and objects are open.
 	depth int
 }
 
+func reading(s string) *reader { return &reader{Reader: faults.Reader{Text: s}} }
+
 func read(s string) api.Json {
-	r := &reader{text: s}
+	r := reading(s)
 	if len(s) > api.MaxText {
-		r.fail(api.ErrLong, api.MaxText)
+		r.Fail(api.ErrLong, api.MaxText)
 	}
 	r.skipBlanks()
 	j := r.value()
 	r.skipBlanks()
-	if r.at < len(s) {
-		r.misfit()
+	if !r.Ended() {
+		r.Misfit()
 	}
 	return j
 }
 
-func (r *reader) fail(err api.Errno, at int) { panic(api.Fault{Err: err, At: at}) }
-
-// misfit fails where something else must stand next.
-func (r *reader) misfit() { r.fail(faults.Misfit(r.text, r.at), r.at) }
-
-// peek is the byte that stands next. At the text's end it is a byte with which no text goes on either.
-func (r *reader) peek() byte {
-	if r.at == len(r.text) {
-		return 0
-	}
-	return r.text[r.at]
-}
-
-func (r *reader) nextIs(set string) bool { return strings.IndexByte(set, r.peek()) >= 0 }
-
-// skip passes a byte over, if it is one of a set.
-func (r *reader) skip(set string) bool {
-	found := r.nextIs(set)
-	if found {
-		r.at++
-	}
-	return found
-}
-
-// take is the byte that stands next, which must be one of a set.
-func (r *reader) take(set string) byte {
-	c := r.peek()
-	if !r.skip(set) {
-		r.misfit()
-	}
-	return c
-}
-
-func (r *reader) skipBlanks() {
-	for r.skip(blanks) {
-	}
-}
-
-func (r *reader) word(s string) {
-	for i := range len(s) {
-		r.take(s[i : i+1])
-	}
-}
+func (r *reader) skipBlanks() { r.SkipAll(blanks) }
 
 func (r *reader) value() api.Json {
-	j := api.Json{At: r.at}
-	switch r.peek() {
+	j := api.Json{At: r.At}
+	switch r.Peek() {
 	case 'n':
 		j.Kind = api.JsNull
-		r.word(null)
+		r.Word(null)
 	case 'f':
 		j.Kind = api.JsFalse
-		r.word(no)
+		r.Word(no)
 	case 't':
 		j.Kind = api.JsTrue
-		r.word(yes)
+		r.Word(yes)
 	case '"':
 		j.Kind, j.Text = api.JsString, r.quoted()
 	case '[':
@@ -117,43 +77,42 @@ func (r *reader) value() api.Json {
 
 // number is a number's bytes.
 func (r *reader) number() string {
-	start := r.at
-	r.skip("-")
+	start := r.At
+	r.Skip("-")
 	switch {
-	case !r.skip("0"):
+	case !r.Skip("0"):
 		r.digits()
-	case r.nextIs(digits):
-		r.fail(api.ErrZero, r.at)
+	case r.NextIs(digits):
+		r.Fail(api.ErrZero, r.At)
 	}
-	if r.skip(".") {
-		r.digits()
-	}
-	if r.skip("eE") {
-		r.skip("+-")
+	if r.Skip(".") {
 		r.digits()
 	}
-	return r.text[start:r.at]
+	if r.Skip("eE") {
+		r.Skip("+-")
+		r.digits()
+	}
+	return r.Text[start:r.At]
 }
 
 func (r *reader) digits() {
-	r.take(digits)
-	for r.skip(digits) {
-	}
+	r.Take(digits)
+	r.SkipAll(digits)
 }
 
 // quoted is what a string says.
 func (r *reader) quoted() string {
-	r.take(`"`)
+	r.Take(`"`)
 	var said []byte
-	for !r.skip(`"`) {
-		switch c := r.peek(); {
+	for !r.Skip(`"`) {
+		switch c := r.Peek(); {
 		case c < ' ':
-			r.misfit()
+			r.Misfit()
 		case c == '\\':
-			r.at++
+			r.At++
 			said = r.appendEscaped(said)
 		default:
-			r.at++
+			r.At++
 			said = append(said, c)
 		}
 	}
@@ -162,16 +121,16 @@ func (r *reader) quoted() string {
 
 // appendEscaped lays behind what is said already what an escape says, behind its \.
 func (r *reader) appendEscaped(said []byte) []byte {
-	if r.skip("u") {
+	if r.Skip("u") {
 		return utf8.AppendRune(said, r.char())
 	}
-	c := r.take(escapes)
+	c := r.Take(escapes)
 	return append(said, escaped[strings.IndexByte(escapes, c)])
 }
 
 // char is the number that stands behind a \u, and perhaps in a second escape behind it.
 func (r *reader) char() rune {
-	if !r.nextIs("dD") {
+	if !r.NextIs("dD") {
 		return r.number16(hexDigits, hexDigits)
 	}
 	// A second half has no place but behind a first one.
@@ -179,7 +138,7 @@ func (r *reader) char() rune {
 	if first < firstHalf {
 		return first
 	}
-	r.word(`\u`)
+	r.Word(`\u`)
 	second := r.number16("dD", "cdefCDEF")
 	return (first-firstHalf)<<10 + (second - secondHalf) + firstPair
 }
@@ -188,7 +147,7 @@ func (r *reader) char() rune {
 func (r *reader) number16(first, second string) rune {
 	var n rune
 	for _, set := range [...]string{first, second, hexDigits, hexDigits} {
-		n = n<<4 + hexValue(r.take(set))
+		n = n<<4 + hexValue(r.Take(set))
 	}
 	return n
 }
@@ -202,14 +161,14 @@ func hexValue(digit byte) rune {
 func (r *reader) items(closing string) iter.Seq[int] {
 	return func(yield func(int) bool) {
 		if r.depth == api.MaxDepth {
-			r.fail(api.ErrDeep, r.at)
+			r.Fail(api.ErrDeep, r.At)
 		}
-		r.at++
+		r.At++
 		r.depth++
 		r.skipBlanks()
-		for goesOn := !r.skip(closing); goesOn; goesOn = r.take(","+closing) == ',' {
+		for goesOn := !r.Skip(closing); goesOn; goesOn = r.Take(","+closing) == ',' {
 			r.skipBlanks()
-			if !yield(r.at) {
+			if !yield(r.At) {
 				return
 			}
 			r.skipBlanks()
@@ -229,14 +188,14 @@ func (r *reader) list() []api.Json {
 func (r *reader) object() ([]string, []api.Json) {
 	var keys []string
 	var kids []api.Json
-	seen := keySet{}
+	seen := sets.Texts{}
 	for at := range r.items("}") {
 		key := r.quoted()
-		if !seen.add(key) {
-			r.fail(api.ErrTwice, at)
+		if !seen.Add(key) {
+			r.Fail(api.ErrTwice, at)
 		}
 		r.skipBlanks()
-		r.take(":")
+		r.Take(":")
 		r.skipBlanks()
 		keys, kids = append(keys, key), append(kids, r.value())
 	}

@@ -7,26 +7,13 @@ import (
 
 	"dovetail/api"
 	"dovetail/faults"
+	"dovetail/sets"
+	"dovetail/trees"
 )
 
 // values hands out a value and all that stands in it, each one ahead of what stands in it, with how many others it stands in.
 func values(j api.Json) iter.Seq2[int, api.Json] {
-	return func(yield func(int, api.Json) bool) {
-		// All that stands within goes to the same loop, so that what is nested deep is handed out in one step too.
-		var from func(depth int, value api.Json) bool
-		from = func(depth int, value api.Json) bool {
-			if !yield(depth, value) {
-				return false
-			}
-			for _, kid := range value.Kids {
-				if !from(depth+1, kid) {
-					return false
-				}
-			}
-			return true
-		}
-		from(0, j)
-	}
+	return trees.All(j, func(value api.Json) []api.Json { return value.Kids })
 }
 
 func holdsKids(kind int) bool { return kind == api.JsList || kind == api.JsObject }
@@ -52,25 +39,15 @@ func fitsAt(depth int, j api.Json) bool {
 }
 
 func isNumber(s string) bool {
-	r := &reader{text: s}
+	r := reading(s)
 	number, f := faults.Caught(r.number)
 	return f.Err == api.OK && number == s
 }
 
-// keySet is keys, each one once.
-type keySet map[string]struct{}
-
-// add tells whether a key was not there yet.
-func (k keySet) add(key string) bool {
-	before := len(k)
-	k[key] = struct{}{}
-	return len(k) > before
-}
-
 func differ(keys []string) bool {
-	seen := keySet{}
+	seen := sets.Texts{}
 	for _, key := range keys {
-		if !seen.add(key) {
+		if !seen.Add(key) {
 			return false
 		}
 	}

@@ -52,51 +52,43 @@ func wordAt(place int, second, third string) string {
 // asksOnePackage tells whether a kind's operands are capabilities alone, which one package is asked for.
 func asksOnePackage(op int) bool { return op == api.RiWith || op == api.RiWithout }
 
-// reader goes over a text, part by part. At the first part that is wrong it panics with its fault, so that no part need ask how those within it went.
+// reader goes over a text, part by part.
 type reader struct {
-	text string
-	at   int
+	faults.Reader
 	// How many capabilities have begun by now, and how many rich ones are open.
 	capabilities, depth int
 }
 
 func read(s string) api.Rich {
-	r := &reader{text: s}
+	r := &reader{Reader: faults.Reader{Text: s}}
 	if len(s) > api.MaxSpec {
-		r.fail(api.ErrLong, api.MaxSpec)
+		r.Fail(api.ErrLong, api.MaxSpec)
 	}
 	r.skipBlanks()
 	d := r.operand(unknown)
 	r.skipBlanks()
-	if r.rest() != "" {
-		r.misfit()
+	if !r.Ended() {
+		r.Misfit()
 	}
 	return d
 }
 
-func (r *reader) fail(err api.Errno, at int) { panic(api.Fault{Err: err, At: at}) }
-
-// misfit fails where something else must stand next.
-func (r *reader) misfit() { r.fail(faults.Misfit(r.text, r.at), r.at) }
-
-func (r *reader) rest() string { return r.text[r.at:] }
-
 // skipBlanks passes blanks over, and tells whether there were any.
 func (r *reader) skipBlanks() bool {
-	start := r.at
-	r.at = scan.Run(r.text, start, api.CsBlank)
-	return r.at > start
+	start := r.At
+	r.At = scan.Run(r.Text, start, api.CsBlank)
+	return r.At > start
 }
 
 func (r *reader) mustSkipBlanks() {
 	if !r.skipBlanks() {
-		r.misfit()
+		r.Misfit()
 	}
 }
 
-// upTo is what stands next, ahead of the first of some bytes.
-func (r *reader) upTo(ends string) string {
-	rest := r.rest()
+// aheadOf is what stands next, ahead of the first of some bytes.
+func (r *reader) aheadOf(ends string) string {
+	rest := r.Rest()
 	if end := strings.IndexAny(rest, ends); end >= 0 {
 		return rest[:end]
 	}
@@ -106,12 +98,12 @@ func (r *reader) upTo(ends string) string {
 // operand reads an operand of a kind, or a whole dependency.
 func (r *reader) operand(op int) api.Rich {
 	switch {
-	case !strings.HasPrefix(r.rest(), "("):
+	case !r.Begins("("):
 		return r.capability()
 	case r.depth == api.MaxDepth:
-		r.fail(api.ErrDeep, r.at)
+		r.Fail(api.ErrDeep, r.At)
 	case asksOnePackage(op):
-		r.fail(api.ErrType, r.at)
+		r.Fail(api.ErrType, r.At)
 	}
 	return r.rich()
 }
@@ -119,19 +111,19 @@ func (r *reader) operand(op int) api.Rich {
 // rich reads a rich one, whose ( stands next.
 func (r *reader) rich() api.Rich {
 	r.depth++
-	r.at += len("(")
-	start := r.at
+	r.At += len("(")
+	start := r.At
 	d := api.Rich{Subs: []api.Rich{r.operand(unknown)}}
 	for r.goesOn(d) {
 		d.Op = r.operator(d)
 		// What its first operand may be shows only here.
 		if asksOnePackage(d.Op) && d.Subs[0].Op != api.RiCap {
-			r.fail(api.ErrType, start)
+			r.Fail(api.ErrType, start)
 		}
 		r.mustSkipBlanks()
 		d.Subs = append(d.Subs, r.operand(d.Op))
 	}
-	r.at += len(")")
+	r.At += len(")")
 	r.depth--
 	return d
 }
@@ -139,34 +131,34 @@ func (r *reader) rich() api.Rich {
 // goesOn tells whether a rich one goes on with an operator behind the operands that it has, or ends.
 func (r *reader) goesOn(d api.Rich) bool {
 	apart := r.skipBlanks()
-	if len(d.Subs) > 1 && strings.HasPrefix(r.rest(), ")") {
+	if len(d.Subs) > 1 && r.Begins(")") {
 		return false
 	}
 	if !apart || r.word() == "" {
-		r.misfit()
+		r.Misfit()
 	}
 	return true
 }
 
 // word is the word that stands next, where an operator must.
-func (r *reader) word() string { return r.upTo(blanks + parentheses) }
+func (r *reader) word() string { return r.aheadOf(blanks + parentheses) }
 
 // operator reads the operator behind the operands that a rich one has, and tells of which kind that is then.
 func (r *reader) operator(d api.Rich) int {
 	word := r.word()
 	for op := range api.NumRis {
 		if (d.Op == unknown || d.Op == op) && wordAhead(op, len(d.Subs)) == word {
-			r.at += len(word)
+			r.At += len(word)
 			return op
 		}
 	}
-	r.fail(api.ErrWord, r.at)
+	r.Fail(api.ErrWord, r.At)
 	return unknown
 }
 
 func (r *reader) capability() api.Rich {
-	if r.capabilities == api.MaxTerms && r.rest() != "" {
-		r.fail(api.ErrLong, r.at)
+	if r.capabilities == api.MaxTerms && !r.Ended() {
+		r.Fail(api.ErrLong, r.At)
 	}
 	r.capabilities++
 	d := api.Rich{Op: api.RiCap, Name: r.name()}
@@ -178,14 +170,14 @@ func (r *reader) capability() api.Rich {
 }
 
 func (r *reader) name() string {
-	rest := r.rest()
+	rest := r.Rest()
 	end, open := nameEnd(rest)
 	if end > api.MaxName {
-		r.fail(api.ErrLong, r.at+api.MaxName)
+		r.Fail(api.ErrLong, r.At+api.MaxName)
 	}
-	r.at += end
+	r.At += end
 	if end == 0 || open > 0 {
-		r.misfit()
+		r.Misfit()
 	}
 	return rest[:end]
 }
@@ -212,10 +204,10 @@ func isNamed(c byte) bool { return '!' <= c && c <= '~' }
 // comparison reads blanks and a comparison, if both stand next.
 func (r *reader) comparison() string {
 	// Ahead of it blanks stand: else it would belong to the name.
-	at := scan.Run(r.text, r.at, api.CsBlank)
-	cmp, ok := scan.Word(r.text, at, comparisons())
+	at := scan.Run(r.Text, r.At, api.CsBlank)
+	cmp, ok := scan.Word(r.Text, at, comparisons())
 	if ok {
-		r.at = at + len(cmp)
+		r.At = at + len(cmp)
 	}
 	return cmp
 }
@@ -225,13 +217,13 @@ func (r *reader) evr() string {
 	if r.depth > 0 {
 		ends += ")"
 	}
-	evr := r.upTo(ends)
+	evr := r.aheadOf(ends)
 	if evr == "" {
-		r.misfit()
+		r.Misfit()
 	}
 	if _, f := rpm.Parse(evr); f.Err != api.OK {
-		r.fail(api.ErrVersion, r.at)
+		r.Fail(api.ErrVersion, r.At)
 	}
-	r.at += len(evr)
+	r.At += len(evr)
 	return evr
 }
