@@ -11,6 +11,17 @@ func Misfit(s string, at int) api.Errno {
 	return api.ErrForm
 }
 
+// Fail gives a text up.
+func Fail(err api.Errno, at int) { panic(api.Fault{Err: err, At: at}) }
+
+// Good is what a call has read, or gives the text up with its fault.
+func Good[V any](value V, f api.Fault) V {
+	if f.Err != api.OK {
+		panic(f)
+	}
+	return value
+}
+
 // Caught is what read tells, or the fault with which it panics to give its text up. Any other panic goes on.
 func Caught[V any](read func() V) (value V, f api.Fault) {
 	defer func() {

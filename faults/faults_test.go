@@ -13,6 +13,22 @@ func TestMisfit(t *testing.T) {
 	}
 }
 
+func TestGivingUp(t *testing.T) {
+	f := api.Fault{Err: api.ErrWord, At: 3}
+	for i, read := range []func() string{
+		func() string { faults.Fail(api.ErrWord, 3); return "on" },
+		func() string { return faults.Good("on", f) },
+		func() string { return faults.Good("", f) },
+	} {
+		if s, got := faults.Caught(read); s != "" || got != f {
+			t.Errorf("%d: %q, %v", i, s, got)
+		}
+	}
+	if s := faults.Good("on", api.Fault{}); s != "on" {
+		t.Errorf("Good = %q", s)
+	}
+}
+
 func TestCaught(t *testing.T) {
 	read := func(s string) (string, api.Fault) {
 		return faults.Caught(func() string {

@@ -13,7 +13,7 @@ type Reader struct {
 }
 
 // Fail gives the text up.
-func (r *Reader) Fail(err api.Errno, at int) { panic(api.Fault{Err: err, At: at}) }
+func (r *Reader) Fail(err api.Errno, at int) { Fail(err, at) }
 
 // Misfit fails where something else must stand next.
 func (r *Reader) Misfit() { r.Fail(Misfit(r.Text, r.At), r.At) }

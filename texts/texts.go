@@ -19,6 +19,9 @@ func Epoch(s string) (string, int) {
 	return scan.Trim(s[:end]), end + len(":")
 }
 
+// Line is the line, from 1 on, in which a place of a text stands: bytes 10 end lines.
+func Line(s string, at int) int { return 1 + strings.Count(s[:at], "\n") }
+
 // SideBySide hands out two texts part by part, until nothing is left of both. cut is a text's first part and what is left behind it, which must be shorter; of nothing it is what stands for the parts by which one text has fewer.
 func SideBySide[P any](a, b string, cut func(string) (P, string)) iter.Seq2[P, P] {
 	return func(yield func(P, P) bool) {

@@ -59,6 +59,16 @@ func TestEpoch(t *testing.T) {
 	}
 }
 
+func TestLine(t *testing.T) {
+	for s, want := range map[string][]int{"": {1}, "ab": {1, 1, 1}, "\n": {1, 2}, "a\n\nb\n": {1, 1, 2, 3, 3, 4}, "\r\n\v\r\u2028": {1, 1, 2, 2, 2, 2, 2, 2}} {
+		for at, line := range want {
+			if got := texts.Line(s, at); got != line {
+				t.Errorf("Line(%q, %d) = %d", s, at, got)
+			}
+		}
+	}
+}
+
 // cutTwo is a text's first two bytes, and "-" of nothing.
 func cutTwo(s string) (string, string) {
 	if s == "" {
